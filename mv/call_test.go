@@ -110,14 +110,14 @@ func TestListsAreNew(t *testing.T) {
 func mixed(t *testing.T) string {
 	t.Helper()
 	s := made(t, 5, 3, 9)
-	text := "begin, get 0, put 1 x, get 1, delete 1, get 1, abort, begin, get 2, commit, begin, put 0 y, get 0"
-	for range 8 {
-		joined(t, s, text)
+	text := "begin, get 0, put 1 x, get 1, delete 1, get 1, abort, begin, get 2, commit, begin, put 0 y, get 0, put %d z, delete 2, commit, begin, get 1, get 2"
+	for c := range 8 {
+		joined(t, s, fmt.Sprintf(text, c%3))
 	}
 	seen := ""
 	for i := range 300 {
 		n, err := s.Pick((i*i + i/7) % 8)
-		seen += fmt.Sprint(n, err, s.Sites())
+		seen += fmt.Sprint(n, err, s.Sites(), s.Marks(), s.Clock())
 	}
 	s.Stop()
 	return seen + state(s)
@@ -137,15 +137,14 @@ func TestSameHoweverGoroutinesRun(t *testing.T) {
 
 // P1: every call ends, whoever calls at the same time.
 func TestCallsAtOnce(t *testing.T) {
-	s := made(t, 8, 1, 9)
+	s := made(t, 8, 2, 9)
 	for range 8 {
-		joined(t, s, "begin, get 0, put 0 x, get 0, abort")
+		joined(t, s, "begin, get 0, put 0 x, get 0, abort, begin, delete 0, put 1 x, commit")
 	}
 	var callers sync.WaitGroup
 	for c := range 8 {
 		callers.Go(func() {
-			for range 20 {
-				s.Pick(c)
+			for n := 1; n >= 0; n, _ = s.Pick(c) {
 				state(s)
 				s.Client(nil)
 				s.Sweep()
@@ -153,7 +152,7 @@ func TestCallsAtOnce(t *testing.T) {
 		})
 	}
 	callers.Wait()
-	same(t, "how many events", len(s.Events()), 40)
+	same(t, "how many events", len(s.Events()), 72)
 	for range 4 {
 		callers.Go(s.Stop)
 		callers.Go(func() { s.Pick(0) })

@@ -24,3 +24,9 @@ func (c *chain[T]) upTo(stamp int) (T, bool) {
 	var none T
 	return none, false
 }
+
+// goesAbove tells whether there is a link with a stamp above the given one.
+func (c *chain[T]) goesAbove(stamp int) bool {
+	n := len(c.links)
+	return n > 0 && c.links[n-1].stamp > stamp
+}

@@ -59,7 +59,7 @@ func (c *client) prepare() {
 	case commit:
 		c.next = c.commit
 	case abort:
-		c.next = c.finish
+		c.next = func() int { return c.finish(done, 0) }
 	}
 }
 
@@ -124,20 +124,4 @@ func (c *client) tell(what content) int {
 		return c.answer(notFound, "", 0)
 	}
 	return c.answer(found, what.value, 0)
-}
-
-// commit is held up if the transaction has written: that such a commit is
-// carried out is still to come, and any outcome told here would be untrue.
-func (c *client) commit() int {
-	if len(c.wrote) > 0 {
-		return heldUp
-	}
-	return c.finish()
-}
-
-// finish ends a transaction of which nothing stays.
-func (c *client) finish() int {
-	c.store.sites[c.site] = free
-	clear(c.wrote)
-	return c.answer(done, "", 0)
 }

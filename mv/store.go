@@ -26,6 +26,7 @@ type Store struct {
 	ended   chan struct{}
 	workers sync.WaitGroup
 
+	limit   int
 	clock   int
 	sites   []int
 	chains  []chain[content]
@@ -42,6 +43,7 @@ func New(sites, keys, limit int) (*Store, error) {
 	return &Store{
 		open:   true,
 		ended:  make(chan struct{}),
+		limit:  limit,
 		sites:  slices.Repeat([]int{free}, sites),
 		chains: make([]chain[content], keys),
 		marks:  map[int]Mark{},
