@@ -117,7 +117,8 @@ func mixed(t *testing.T) string {
 	seen := ""
 	for i := range 300 {
 		n, err := s.Pick((i*i + i/7) % 8)
-		seen += fmt.Sprint(n, err, s.Sites(), s.Marks(), s.Clock())
+		over, wrong := s.Sweep()
+		seen += fmt.Sprint(n, err, over, wrong, s.Sites(), s.Marks(), s.Clock(), versions(s, i%3))
 	}
 	s.Stop()
 	return seen + state(s)
@@ -153,6 +154,9 @@ func TestCallsAtOnce(t *testing.T) {
 	}
 	callers.Wait()
 	same(t, "how many events", len(s.Events()), 72)
+	pass(t, s)
+	pass(t, s)
+	same(t, "what is left", fmt.Sprint(len(versions(s, 0)), len(versions(s, 1))), "0 1")
 	for range 4 {
 		callers.Go(s.Stop)
 		callers.Go(func() { s.Pick(0) })

@@ -42,11 +42,16 @@ func TestErrorsByPlain(t *testing.T) {
 	if l := plain.Chain(s, 0, 0); l != nil {
 		t.Fatalf("an empty chain: %v", l)
 	}
+	for turn, want := range []bool{false, false, true, false, false, true, false} {
+		if over, n := plain.Sweep(s); over != want || n != 0 {
+			t.Fatalf("small step %d of the sweeper: %v, %d", turn, over, n)
+		}
+	}
 	s.Stop()
 	_, a := plain.Client(s, nil)
 	_, b := plain.Pick(s, -3)
-	_, c := plain.Sweep(s)
-	if a != 5 || b != 5 || c != 5 {
-		t.Fatalf("behind Stop: %d, %d, %d", a, b, c)
+	over, c := plain.Sweep(s)
+	if a != 5 || b != 5 || c != 5 || over {
+		t.Fatalf("behind Stop: %d, %d, %d, %v", a, b, c, over)
 	}
 }

@@ -32,6 +32,7 @@ type Store struct {
 	chains  []chain[content]
 	marks   map[int]Mark
 	clients []*client
+	sweeper *sweeper
 	events  []Event
 }
 
@@ -40,14 +41,16 @@ func New(sites, keys, limit int) (*Store, error) {
 	if !within(sites, 1, mostSites) || !within(keys, 1, mostKeys) || !within(limit, 0, mostLimit) {
 		return nil, ErrShape
 	}
-	return &Store{
+	s := &Store{
 		open:   true,
 		ended:  make(chan struct{}),
 		limit:  limit,
 		sites:  slices.Repeat([]int{free}, sites),
 		chains: make([]chain[content], keys),
 		marks:  map[int]Mark{},
-	}, nil
+	}
+	s.sweeper = s.newSweeper()
+	return s, nil
 }
 
 func within(n, least, most int) bool { return n >= least && n <= most }
@@ -92,14 +95,14 @@ func (s *Store) Pick(c int) (int, error) {
 	return s.clients[c].work(), nil
 }
 
-// Sweep: P7, of which only the error is there so far.
+// Sweep: P7.
 func (s *Store) Sweep() (bool, error) {
 	s = s.locked()
 	defer s.lock.Unlock()
 	if !s.open {
 		return false, &CallError{"Sweep", 0, ErrStopped}
 	}
-	return false, nil
+	return s.sweeper.work() == passOver, nil
 }
 
 // Stop ends every goroutine of the store: P8.

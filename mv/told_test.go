@@ -126,6 +126,26 @@ func waitFor(t *testing.T, want int) {
 	t.Fatalf("%d goroutines, want %d", workers(), want)
 }
 
+// A small step is done by the goroutine of the client, or of the sweeper, not by whoever calls.
+func TestWhoDoesTheStep(t *testing.T) {
+	s := made(t, 1, 1, 9)
+	c := joined(t, s, "begin")
+	where := ""
+	look := func() int {
+		text := make([]byte, 1<<16)
+		where = string(text[:runtime.Stack(text, false)])
+		return stepped
+	}
+	s.clients[c].next, s.sweeper.next = look, look
+	for what, call := range map[string]func(){"Pick": func() { s.Pick(c) }, "Sweep": func() { s.Sweep() }} {
+		where = ""
+		call()
+		if !strings.Contains(where, "created by mvstore/mv.") {
+			t.Errorf("%s: the step was done by %s", what, where)
+		}
+	}
+}
+
 // P8: behind Stop every goroutine has ended, wherever its client was; what is there is told.
 func TestStop(t *testing.T) {
 	waitFor(t, 0)
@@ -135,7 +155,7 @@ func TestStop(t *testing.T) {
 	for range 8 {
 		joined(t, s, "begin, get 0, abort")
 	}
-	waitFor(t, 8)
+	waitFor(t, 9) // and the sweeper
 	turns(t, s, 0, 1, 1, 0)
 	turns(t, s, 1, 1, 1, 1, -1)
 	before := state(s)

@@ -41,7 +41,9 @@ type run struct {
 	*testing.T
 	s        *Store
 	programs [][]Step
-	picks    []int // how it was driven, for whoever reads a failure
+	picks    []int // how it was driven (-1: the sweeper), for whoever reads a failure
+	broom    broom
+	swept    bool
 }
 
 func newRun(t *testing.T, sites, keys, limit int, programs ...[]Step) *run {
@@ -216,7 +218,7 @@ func (r *run) asOf(all []transaction, key, stamp int) string {
 	return what
 }
 
-// judgeChains holds the chains against what was committed: all of it, and nothing else.
+// judgeChains holds the chains against what was committed: all of it, and nothing else; of what has been swept the newest ones.
 func (r *run) judgeChains(all []transaction) {
 	r.Helper()
 	for key := range r.s.chains {
@@ -227,7 +229,8 @@ func (r *run) judgeChains(all []transaction) {
 			}
 		}
 		slices.Reverse(want)
-		if !slices.Equal(versions(r.s, key), want) {
+		got := versions(r.s, key)
+		if len(got) > len(want) || !slices.Equal(got, want[:len(got)]) || len(got) < len(want) && !r.swept {
 			r.wrong("the chain of ", key, ", want ", want)
 		}
 	}
@@ -251,16 +254,19 @@ func (r *run) end() {
 	r.wrong("it does not come to an end")
 }
 
-// orders calls on every order in which two clients take a and b small steps.
-func orders(a, b int, so []int, call func([]int)) {
-	if a+b == 0 {
+// orders calls on every order in which each one takes as many small steps as are left to it.
+func orders(left []int, so []int, call func([]int)) {
+	at := false
+	for c, n := range left {
+		if n > 0 {
+			at = true
+			rest := slices.Clone(left)
+			rest[c]--
+			orders(rest, append(slices.Clone(so), c), call)
+		}
+	}
+	if !at {
 		call(so)
-	}
-	if a > 0 {
-		orders(a-1, b, append(slices.Clone(so), 0), call)
-	}
-	if b > 0 {
-		orders(a, b-1, append(slices.Clone(so), 1), call)
 	}
 }
 
@@ -278,7 +284,7 @@ func TestEveryOrder(t *testing.T) {
 		{"begin, put 1 a, commit", "begin, get 1, put 0 b, get 1, commit", 9, 7, 7, 3},
 	} {
 		seen := map[string]bool{}
-		orders(c.m, c.n, nil, func(order []int) {
+		orders([]int{c.m, c.n}, nil, func(order []int) {
 			r := newRun(t, 2, 2, c.limit, program(t, c.a), program(t, c.b))
 			for _, c := range order {
 				r.pick(c)
@@ -343,6 +349,226 @@ func TestManyClients(t *testing.T) {
 	for outcome := done; outcome <= leftOut; outcome++ {
 		if outcomes[outcome] < 20 {
 			t.Errorf("outcome %d came about %d times", outcome, outcomes[outcome])
+		}
+	}
+}
+
+// broom tells P7 a second time, by what the store tells of itself.
+type broom struct{ at, w int }
+
+// step answers all chains as a small step of the sweeper must leave them, and whether it is the last one of a pass.
+func (b *broom) step(s *Store) (string, bool) {
+	text := ""
+	sites := s.Sites()
+	for key := range s.chains {
+		list := versions(s, key)
+		if key == b.at-1-len(sites) {
+			list = b.left(list)
+		}
+		text += fmt.Sprint(list)
+	}
+	if b.at == 0 {
+		b.w = s.Clock()
+	} else if b.at <= len(sites) && sites[b.at-1] >= 0 {
+		b.w = min(b.w, sites[b.at-1])
+	}
+	b.at = (b.at + 1) % (1 + len(sites) + len(s.chains))
+	return text, b.at == 0
+}
+
+func (b *broom) left(list []Version) []Version {
+	for i, v := range list {
+		if v.Stamp <= b.w && v.Gone {
+			return list[:i]
+		}
+		if v.Stamp <= b.w {
+			return list[:i+1]
+		}
+	}
+	return list
+}
+
+// sweep takes a small step of the sweeper, and holds what it leaves against what the broom would.
+func (r *run) sweep() bool {
+	r.Helper()
+	r.swept = true
+	r.picks = append(r.picks, -1)
+	rest := fmt.Sprint(r.s.Sites(), r.s.Marks(), r.s.Clock(), r.s.Events())
+	want, last := r.broom.step(r.s)
+	over, err := r.s.Sweep()
+	got := ""
+	for key := range r.s.chains {
+		got += fmt.Sprint(versions(r.s, key))
+	}
+	if err != nil || over != last || got != want {
+		r.wrong("the sweeper: ", over, err, ", want ", last, " and the chains ", want)
+	}
+	if rest != fmt.Sprint(r.s.Sites(), r.s.Marks(), r.s.Clock(), r.s.Events()) {
+		r.wrong("the sweeper has changed ", rest)
+	}
+	return over
+}
+
+// clean sweeps to the end of a whole pass: of each key that has a value there is one version, of others none.
+func (r *run) clean() {
+	r.Helper()
+	for range 2 {
+		for !r.sweep() {
+		}
+	}
+	all := r.transactions()
+	slices.SortStableFunc(all, func(x, y transaction) int { return x.stamp - y.stamp })
+	for key := range r.s.chains {
+		what, list := r.asOf(all, key, r.s.Clock()), versions(r.s, key)
+		if what == none && len(list) == 0 {
+			continue
+		}
+		if len(list) != 1 || list[0].Gone || list[0].Value != what {
+			r.wrong("the chain of ", key, " behind all, want one version, of ", what)
+		}
+	}
+}
+
+// P7, P9: many clients, and the sweeper among them, more and less often.
+func TestManyClientsAndSweeper(t *testing.T) {
+	least := 0
+	for seed := range 200 {
+		d := dice(seed + 1000)
+		keys := 1 + d.below(5)
+		var programs [][]Step
+		for range 2 + d.below(7) {
+			programs = append(programs, d.anyProgram(keys))
+		}
+		r := newRun(t, 1+d.below(8), keys, []int{3, 1000, 1000, 1000}[d.below(4)], programs...)
+		often := 1 + d.below(6)
+		for range d.below(600) {
+			if d.below(7) < often {
+				r.sweep()
+			} else {
+				r.pick(d.below(len(programs)))
+			}
+		}
+		r.end()
+		r.judge()
+		for key := range keys {
+			least += len(versions(r.s, key))
+		}
+		r.clean()
+		for key := range keys {
+			least -= len(versions(r.s, key))
+		}
+		r.s.Stop()
+	}
+	if least < 100 {
+		t.Errorf("only %d versions were left for the last passes", least)
+	}
+}
+
+// driven picks clients as a list says, with so many small steps of the sweeper ahead of each turn as between says, and answers all that clients are told.
+func driven(t *testing.T, sites, keys int, programs [][]Step, picks []int, between func(turn int) int) string {
+	t.Helper()
+	s := made(t, sites, keys, 1000)
+	defer s.Stop()
+	for _, l := range programs {
+		if _, err := s.Client(l); err != nil {
+			t.Fatal(err)
+		}
+	}
+	var text strings.Builder
+	for turn, c := range picks {
+		for range between(turn) {
+			if _, err := s.Sweep(); err != nil {
+				t.Fatal(err)
+			}
+		}
+		n, err := s.Pick(c)
+		fmt.Fprintln(&text, c, n, err, s.Sites(), s.Marks(), s.Clock(), len(s.Events()))
+	}
+	return text.String() + fmt.Sprint(s.Events())
+}
+
+// P9: the same turns of clients, with the sweeper between them in many ways, and without it: the same answers and events.
+func TestSameWithSweeper(t *testing.T) {
+	for seed := range 25 {
+		d := dice(seed + 5000)
+		sites, keys := 1+d.below(8), 1+d.below(4)
+		var programs [][]Step
+		for range 3 + d.below(6) {
+			programs = append(programs, append(d.anyProgram(keys), d.anyProgram(keys)...))
+		}
+		var picks []int
+		for range 500 {
+			picks = append(picks, d.below(len(programs)))
+		}
+		for turn := range 1200 {
+			picks = append(picks, turn/20%len(programs))
+		}
+		want := driven(t, sites, keys, programs, picks, func(int) int { return 0 })
+		whole := 1 + sites + keys
+		for i, between := range []func(turn int) int{
+			func(int) int { return 1 },
+			func(int) int { return whole },
+			func(int) int { return whole - 1 },
+			func(turn int) int { return max(0, 2-turn%3) },
+			func(turn int) int { return turn / 7 % 2 * (whole + 3) },
+			func(int) int { return d.below(4) / 2 },
+			func(int) int { return d.below(2 * whole) },
+			func(turn int) int { return turn % 100 / 99 * (2*whole + 1) },
+		} {
+			if got := driven(t, sites, keys, programs, picks, between); got != want {
+				t.Fatalf("seed %d, way %d: programs %v, picks %v: %s\n\nwithout the sweeper %s", seed, i, programs, picks, got, want)
+			}
+		}
+	}
+}
+
+// P7, P9: a writer, another client and the sweeper, in every order of their small steps; the same turns without the sweeper: the same events.
+func TestEveryOrderWithSweeper(t *testing.T) {
+	const sweeper = 2
+	for _, c := range []struct {
+		a, b  string
+		ahead [2]int // the small steps of both that are taken ahead of all
+		left  []int  // those of which every order is tried; the last number is the sweeper's
+	}{
+		{"begin, put 0 new, commit", "begin, get 0, commit", [2]int{4, 0}, []int{3, 3, 4}},
+		{"begin, delete 0, commit", "begin, get 0, commit", [2]int{4, 0}, []int{3, 3, 4}},
+		{"begin, delete 0, commit", "begin, put 0 other, commit", [2]int{4, 1}, []int{3, 3, 4}},
+		{"begin, put 0 new, commit", "begin, delete 0, commit", [2]int{5, 1}, []int{2, 4, 4}},
+	} {
+		try := func(order []int, offset int) string {
+			r := newRun(t, 2, 1, 9, program(t, "begin, put 0 old, commit"), program(t, c.a), program(t, c.b))
+			defer r.s.Stop()
+			ran(t, r.s, 0)
+			turns(t, r.s, 1, slices.Repeat([]int{1}, c.ahead[0])...)
+			turns(t, r.s, 2, slices.Repeat([]int{1}, c.ahead[1])...)
+			for range offset {
+				r.sweep()
+			}
+			for _, who := range order {
+				if who == sweeper {
+					r.sweep()
+				} else {
+					r.pick(1 + who)
+				}
+			}
+			r.end()
+			r.judge()
+			return fmt.Sprint(r.s.Events())
+		}
+		without, seen := map[string]string{}, map[string]bool{}
+		offset := 0 // how far the sweeper is in its pass already
+		orders(c.left, nil, func(order []int) {
+			clients := slices.DeleteFunc(slices.Clone(order), func(who int) bool { return who == sweeper })
+			name := fmt.Sprint(clients)
+			if without[name] == "" {
+				without[name] = try(clients, 0)
+				seen[without[name]] = true
+			}
+			offset = (offset + 1) % 4
+			same(t, fmt.Sprint(c, order, offset), try(order, offset), without[name])
+		})
+		if len(seen) < 2 {
+			t.Fatalf("%s and %s: only %v", c.a, c.b, seen)
 		}
 	}
 }
