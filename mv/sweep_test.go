@@ -589,3 +589,26 @@ func TestSweepAfterEachCommit(t *testing.T) {
 	pass(t, s)
 	same(t, "what is left at the end", chained(s, 0)+"; "+chained(s, 1), "50 v; ")
 }
+
+// P8: a chain that has been swept is told newest first, left early or gone through whole, and joined by what is new.
+func TestChainOfWhatIsSwept(t *testing.T) {
+	s := made(t, 1, 1, 9)
+	lay(t, s, 0, "5 e, 4, 3 c, 2 b, 1 a")
+	s.clock, s.sites[0] = 5, 3
+	pass(t, s)
+	want := []string{"{5 false e}", "{4 true }", "{3 false c}"}
+	for leave := 1; leave <= 4; leave++ {
+		n := 0
+		for v := range s.Chain(0) {
+			same(t, fmt.Sprint("version ", n), v, want[n])
+			if n++; n == leave {
+				break
+			}
+		}
+		same(t, fmt.Sprint("a loop left behind ", leave), n, min(leave, 3))
+	}
+	s.chains[0].join(6, content{value: "f"})
+	same(t, "with a new one", chained(s, 0), "6 f, 5 e, 4, 3 c")
+	s.Stop()
+	same(t, "behind Stop", chained(s, 0), "6 f, 5 e, 4, 3 c")
+}
